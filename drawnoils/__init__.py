@@ -1,0 +1,1 @@
+"""How strong formulas of oils may be sold, and which changes make them stronger."""
